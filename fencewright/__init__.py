@@ -1,0 +1,1 @@
+"""Fencewright: puts that come late, and fences that wait for them."""
