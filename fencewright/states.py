@@ -1,7 +1,7 @@
 """States of a web: the first one, the moves from one to the next, and the end."""
 
 from fencewright.errors import NoMove, NotOver
-from fencewright.webs import BOXES, is_whole, need_web
+from fencewright.webs import BOXES, is_fence, is_whole, need_web
 
 
 def begun(web):
@@ -22,10 +22,11 @@ def _is_move(hands, thing):
 def _can_step(row, done, line):
     if done >= len(row):
         return False
-    return row[done][0] != "fence" or len(line) == 0
+    return not is_fence(row[done]) or len(line) == 0
 
 
-def _can(web, state, move):
+def is_doable(web, state, move):
+    """What `can` tells, of what is known to be a web."""
     if not _is_move(len(web), move):
         return False
     hand, kind = move
@@ -37,7 +38,7 @@ def _can(web, state, move):
 
 def can(web, state, move):
     """True if the move can be done in the state; False of anything else, be it a move or not."""
-    return _can(need_web(web), state, move)
+    return is_doable(need_web(web), state, move)
 
 
 def _with(parts, at, part):
@@ -70,15 +71,20 @@ def _stepped(state, hand, step):
     return further, lines, boxes, got
 
 
-def moved(web, state, move):
-    """The state behind the move; NoMove if it cannot be done."""
-    rows = need_web(web)
-    if not _can(rows, state, move):
-        raise NoMove("this cannot be done here")
+def behind(web, state, move):
+    """The state behind a move that is known to be one that can be done."""
     hand, kind = move
     if kind == "send":
         return _sent(state, hand)
-    return _stepped(state, hand, rows[hand][state[0][hand]])
+    return _stepped(state, hand, web[hand][state[0][hand]])
+
+
+def moved(web, state, move):
+    """The state behind the move; NoMove if it cannot be done."""
+    rows = need_web(web)
+    if not is_doable(rows, state, move):
+        raise NoMove("this cannot be done here")
+    return behind(rows, state, move)
 
 
 def _is_over(web, state):

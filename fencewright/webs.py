@@ -3,10 +3,10 @@
 from fencewright.errors import BadWeb, NoPlace
 
 BOXES = 4
+FENCE = ("fence",)
 _MOST_HANDS = 3
 _MOST_PUTS_AND_GETS = 8
 _TOO_FAR = 10 ** 30
-_FENCE = ("fence",)
 
 
 def is_whole(thing):
@@ -36,15 +36,21 @@ def _is_step(thing):
     return len(thing) == 1 and _is_word(thing[0], "fence")
 
 
+def is_fence(step):
+    """True for the fences among the steps of a web."""
+    return step[0] == "fence"
+
+
 def _is_row(thing):
     return isinstance(thing, list) and all([_is_step(step) for step in thing])
 
 
 def _puts_and_gets(row):
-    return len([step for step in row if step[0] != "fence"])
+    return len([step for step in row if not is_fence(step)])
 
 
-def _is_web(thing):
+def is_web(thing):
+    """True for a web, of anything."""
     if not isinstance(thing, list) or not 1 <= len(thing) <= _MOST_HANDS:
         return False
     if not all([_is_row(row) for row in thing]):
@@ -54,7 +60,7 @@ def _is_web(thing):
 
 def need_web(web):
     """The web, in lists of its own; BadWeb if it is none."""
-    if not _is_web(web):
+    if not is_web(web):
         raise BadWeb("this is no web")
     return [list(row) for row in web]
 
@@ -79,7 +85,7 @@ def _fenced_row(hand, row, chosen):
     steps = []
     for at, step in enumerate(row):
         if (hand, at) in chosen:
-            steps.append(_FENCE)
+            steps.append(FENCE)
         steps.append(step)
     return steps
 

@@ -17,6 +17,14 @@ INTERFACE = {
         "is_over": ["web", "state"],
         "end_of": ["web", "state"],
     },
+    "ends.py": {
+        "woven": ["web", "weaving"],
+        "is_prompt": ["web", "weaving"],
+        "ends": ["web"],
+        "prompt_ends": ["web"],
+    },
+    "fences.py": {"fences": ["web"]},
+    "notes.py": {"shown": ["web"], "read": ["text"]},
 }
 
 BUILTINS = (

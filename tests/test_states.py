@@ -2,24 +2,11 @@
 
 import copy
 import unittest
-from unittest.mock import ANY
 
 from fencewright.errors import BadWeb, NoMove, NotOver
 from fencewright.states import begun, can, end_of, is_over, moved
-
-FENCE = ("fence",)
-STEP = "step"
-SEND = "send"
-
-NO_MOVES = [
-    None, True, 0, 1, "", "step", "send", b"step", [], {}, (), (0,), ("step",), (0, "step", 0), (0, "step", "send"),
-    [0, "step"], [0, "send"], (["step"],), (0, ["step"]), ([0], "step"), ((0,), "step"), (0, ("step",)),
-    ("step", 0), ("0", "step"), (None, "step"), (0, None), (0, 0), (0, True), (0, b"step"), (0, {}), ({}, "send"),
-    (0, "Step"), (0, "steps"), (0, ""), (0, "step "), (0, "put"), (0, "fence"), (0.0, "step"), (0, set()),
-    (True, "step"), (False, "step"), (True, "send"), (False, "send"),
-    (-1, "step"), (-1, "send"), (-2, "step"), (-3, "send"), (2, "step"), (2, "send"), (3, "step"),
-    (10 ** 40, "step"), (-10 ** 40, "send"), (object(), "step"), (0, ANY), (ANY, "step"),
-]
+from model import FENCE, SEND, STEP, Model
+from samples import NO_MOVES
 
 
 def after(web, moves):
@@ -36,46 +23,6 @@ def only_tuples(thing):
     if isinstance(thing, tuple):
         return type(thing) is tuple and all(only_tuples(part) for part in thing)
     return type(thing) is int
-
-
-class Model:
-    """The rules of points 3 to 5 once more, by lists that change."""
-
-    def __init__(self, web, moves):
-        self.web = web
-        self.done = [0 for _ in web]
-        self.lines = [[] for _ in web]
-        self.boxes = [0, 0, 0, 0]
-        self.got = [[] for _ in web]
-        for hand, kind in moves:
-            self.do(hand, kind)
-
-    def doable(self):
-        told = []
-        for hand, row in enumerate(self.web):
-            rest = row[self.done[hand]:]
-            if rest and not (rest[0] == FENCE and self.lines[hand]):
-                told.append((hand, STEP))
-            if self.lines[hand]:
-                told.append((hand, SEND))
-        return told
-
-    def do(self, hand, kind):
-        if kind == SEND:
-            box, n = self.lines[hand].pop(0)
-            self.boxes[box] = n
-            return
-        step = self.web[hand][self.done[hand]]
-        self.done[hand] += 1
-        if step[0] == "put":
-            self.lines[hand].append(step[1:])
-        if step[0] == "get":
-            own = [n for box, n in self.lines[hand] if box == step[1]]
-            self.got[hand].append((own or [self.boxes[step[1]]])[-1])
-
-    def state(self):
-        return (tuple(self.done), tuple(tuple(line) for line in self.lines),
-                tuple(self.boxes), tuple(tuple(ns) for ns in self.got))
 
 
 class TestBegun(unittest.TestCase):

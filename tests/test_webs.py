@@ -2,52 +2,10 @@
 
 import copy
 import unittest
-from unittest.mock import ANY
 
 from fencewright.errors import BadWeb, NoPlace
 from fencewright.webs import fenced, need_web, places
-
-PUT = ("put", 0, 1)
-GET = ("get", 0)
-FENCE = ("fence",)
-THIRTY = 10 ** 30 - 1
-
-GOOD_WEBS = [
-    [[]],
-    [[], [], []],
-    [[PUT]],
-    [[PUT, GET], [GET, FENCE]],
-    [[PUT], [GET], [FENCE]],
-    [[PUT, GET] * 4],
-    [[PUT] * 3, [GET] * 3, [PUT, GET]],
-    [[PUT] * 8, [FENCE], []],
-    [[FENCE] * 2000],
-    [[FENCE] * 30 + [PUT] * 8, [FENCE] * 30, [FENCE] * 30],
-    [[("put", 3, 0), ("get", 3)]],
-    [[("put", 0, THIRTY), ("put", 0, -THIRTY)]],
-    [[("put", 0, 0), ("put", 0, -1)]],
-]
-
-NO_STEPS = [
-    ("put", -1, 0), ("put", 4, 0), ("get", -1), ("get", 4),
-    ("put", 0, THIRTY + 1), ("put", 0, -THIRTY - 1), ("put", 0, 10 ** 5000),
-    ("put", True, 0), ("put", False, 0), ("get", True), ("get", False),
-    ("put", 0, True), ("put", 0, False), ("put", 0, None), ("put", 0, "1"), ("put", 0, 1.0),
-    ("put", None, 0), ("put", "0", 0), ("put", 0.0, 0), ("get", 0.0), ("get", None), ("get", "0"),
-    ("put", 0), ("put",), ("put", 0, 1, 2), ("get",), ("get", 0, 1), ("fence", 0), ("fence", 0, 0), (),
-    ("set", 0, 1), ("Get", 0), ("look", 0), ("Fence",), ("fences",), ("",), (0,), (None,), (FENCE,),
-    (["put"], 0, 1), ("put", [0], 1), ("put", 0, [1]), (b"fence",), (True,), (ANY, 0, 1), (ANY, 0), (ANY,),
-    ["put", 0, 1], ["get", 0], ["fence"], "fence", "get", None, 0, {}, {"put": 0}, [],
-]
-
-NO_WEBS = [
-    None, True, 0, 3, "", "put 0 1", b"", {}, {0: []}, (), ([],), ([PUT], [GET]), 1.5, set(), object(),
-    [], [[], [], [], []], [[PUT], [GET], [PUT], [GET]],
-    [None], [0], [""], ["fence"], [{}], [()], [(PUT,)], [[PUT], (GET,)], [PUT], [FENCE],
-    [[PUT, GET] * 4 + [GET]], [[PUT] * 4 + [GET] * 5],
-    [[PUT] * 3, [GET] * 3, [PUT, GET, GET]], [[PUT] * 9, [], []], [[], [], [GET] * 9],
-    [[FENCE] * 30 + [PUT] * 9],
-]
+from samples import FENCE, GET, GOOD_WEBS, NO_STEPS, NO_WEBS, PUT
 
 
 def lists_of(web):
